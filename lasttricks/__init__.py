@@ -1,0 +1,1 @@
+"""The last tricks of a game of cards, all cards seen."""
