@@ -6,6 +6,7 @@ import random
 import unittest
 
 import plain_search
+import six_tricks
 from lasttricks.hands import best
 
 LOWEST = -2147483648
@@ -250,9 +251,14 @@ class AgainstPlainSearch(unittest.TestCase):
         for trump in TRUMPS:
             self.check(5, trump, rng.randrange(4), some_deal(rng, 5))
 
+    def test_six_tricks(self):
+        for deals in (six_tricks.MIXED_HANDS, six_tricks.FEW_BARRED, six_tricks.LONG_SEARCHES):
+            for trump, lead, cards, expected in deals:
+                self.assertEqual(best(6, trump, lead, cards), [expected], (trump, lead, cards))
+
 
 class ManyTricks(unittest.TestCase):
-    """Deals that are too long for the plain search here, held against one another."""
+    """Any deals of five and six tricks, held against the same deal with seats or suits changed about."""
 
     def check_same_game(self, k, trump, lead, cards):
         answer = best(k, trump, lead, cards)
