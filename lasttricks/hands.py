@@ -4,14 +4,59 @@ The search knows no card by its number. What counts is who has which cards in ea
 cards that are left are written as one text, the order: a digit for the seat that has the card, suit behind suit,
 with a fence between two suits. The trump suit stands last; where no suit is trump, a last suit stands empty. A card
 is then a place in the order. Deals that differ in numbers alone share one order, and what is found out about it.
+
+By their numbers the cards lie on a table; what lies there is written as an order when the search is asked about it.
 """
 
 SEATS = 4
 SUITS = 4
 HEIGHTS = 13
 MOST_TRICKS = 6
+WRONG_PLAY = -1
 WRONG_DEAL = -2
+NO_CARD = 255
 FENCE = "/"
+
+
+class Table:
+    """The cards by their numbers, while they are played one by one."""
+
+    def __init__(self, k, trump, lead, cards):
+        self.trump = trump
+        self.lead = lead
+        self.trick = []
+        # A card stays in here till its trick is over, since an order is written as it was at the start of a trick.
+        self.seat_of = {}
+        for dealt, card in enumerate(cards):
+            self.seat_of[card] = dealt // k
+
+    def turn(self):
+        """Name the seat whose turn it is; when no cards are left, the one that took the last trick."""
+        return (self.lead + len(self.trick)) % SEATS
+
+    def cards_allowed(self):
+        """List the cards that the seat whose turn it is may play, the least first."""
+        seat = self.turn()
+        hand = sorted([card for card in self.seat_of if self.seat_of[card] == seat])
+        if len(self.trick) == 0:
+            return hand
+        first_suit = suit_of(self.trick[0])
+        following = [card for card in hand if suit_of(card) == first_suit]
+        return following if len(following) > 0 else hand
+
+    def play(self, card):
+        """Put a card that may be played to the trick."""
+        self.trick.append(card)
+        if len(self.trick) == SEATS:
+            self.end_trick()
+
+    def end_trick(self):
+        """Take the four cards away; who takes the trick plays first in the next."""
+        over = self.trick
+        self.lead = self.seat_of[winning_card(over, self.trump)]
+        self.trick = []
+        for card in over:
+            self.seat_of.pop(card)
 
 
 class Layout:
@@ -28,7 +73,20 @@ def best(k, trump, lead, cards):
     """Answer how many of the k tricks 0 and 2 take, or the refusal."""
     if not is_deal(k, trump, lead, cards):
         return [WRONG_DEAL]
-    return [most_tricks({}, order_of(k, trump, cards), lead)]
+    return [most_tricks({}, Table(k, trump, lead, cards))]
+
+
+def after(k, trump, lead, cards, played):
+    """Answer how many of the tricks that aren't over 0 and 2 take, then the cards that keep it so, or the refusal."""
+    if not is_deal(k, trump, lead, cards) or len(played) > SEATS * k:
+        return [WRONG_DEAL]
+    table = Table(k, trump, lead, cards)
+    if not play_all(table, played):
+        return [WRONG_PLAY]
+    known = {}
+    tricks = most_tricks(known, table)
+    good = [card for card in table.cards_allowed() if is_good(known, table, card, tricks)]
+    return [tricks] + good + [NO_CARD] * (MOST_TRICKS - len(good))
 
 
 def is_deal(k, trump, lead, cards):
@@ -44,27 +102,74 @@ def is_deal(k, trump, lead, cards):
     return len(set(cards)) == len(cards)
 
 
-def order_of(k, trump, cards):
-    """Write the cards as an order."""
-    seat_of = {}
-    for dealt, card in enumerate(cards):
-        seat_of[card] = dealt // k
-    plain_suits = [suit for suit in range(SUITS) if suit != trump]
-    return FENCE.join([seats_in_suit(seat_of, suit) for suit in plain_suits + [trump]])
+def play_all(table, played):
+    """Play the cards in their order, and tell whether each of them may be played."""
+    for card in played:
+        if card not in table.cards_allowed():
+            return False
+        table.play(card)
+    return True
 
 
-def seats_in_suit(seat_of, suit):
-    """Write who has the cards of a suit, from the lowest card up; nobody has one of the suit 4."""
-    first = suit * HEIGHTS
-    return "".join([str(seat_of[card]) for card in range(first, first + HEIGHTS) if card in seat_of])
+def suit_of(card):
+    """Name a card's suit."""
+    return card // HEIGHTS
 
 
-def most_tricks(known, order, lead):
-    """Count the tricks that 0 and 2 take of those in the order."""
+def winning_card(trick, trump):
+    """Name the card that takes a trick; within one suit the higher card has the higher number."""
+    trumps = [card for card in trick if suit_of(card) == trump]
+    if len(trumps) > 0:
+        return max(trumps)
+    first_suit = suit_of(trick[0])
+    return max([card for card in trick if suit_of(card) == first_suit])
+
+
+def most_tricks(known, table):
+    """Count the tricks that 0 and 2 take of those that aren't over."""
     tricks = 0
-    while reaches(known, order, lead, tricks + 1):
+    while table_reaches(known, table, [], tricks + 1):
         tricks += 1
     return tricks
+
+
+def is_good(known, table, card, tricks):
+    """Tell whether a card keeps the outcome for the seat whose turn it is, where tricks is what 0 and 2 take."""
+    if table.turn() % 2 == 0:
+        return table_reaches(known, table, [card], tricks)
+    return not table_reaches(known, table, [card], tricks + 1)
+
+
+def table_reaches(known, table, more, need):
+    """Tell whether 0 and 2 can take at least need of the tricks that aren't over, when more cards are played."""
+    if need <= 0:
+        return True
+    if need > len(table.seat_of) // SEATS:
+        return False
+    cards = cards_by_place(table)
+    places = [cards.index(card) for card in table.trick + more]
+    return trick_reaches(known, Layout(order_of(table, cards)), table.lead, places, need)
+
+
+def cards_by_place(table):
+    """List the cards in the places that they have in the order; no card stands where a fence does."""
+    plain_suits = [suit for suit in range(SUITS) if suit != table.trump]
+    cards = []
+    for suit in plain_suits:
+        cards.extend(cards_in_suit(table, suit))
+        cards.append(NO_CARD)
+    return cards + cards_in_suit(table, table.trump)
+
+
+def cards_in_suit(table, suit):
+    """List the cards of a suit, the lowest first; nobody has one of the suit 4."""
+    first = suit * HEIGHTS
+    return [card for card in range(first, first + HEIGHTS) if card in table.seat_of]
+
+
+def order_of(table, cards):
+    """Write the cards that stand in their places as an order."""
+    return "".join([FENCE if card == NO_CARD else str(table.seat_of[card]) for card in cards])
 
 
 def reaches(known, order, lead, need):

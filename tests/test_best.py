@@ -1,53 +1,14 @@
 """Point 1 of the document, and what it says ahead of the points as far as best goes."""
 
-import contextlib
-import io
 import random
 import unittest
 
 import plain_search
 import six_tricks
+from deals import LEADS, NO_TRUMP, TRUMPS, deal, deal_by_suits, hands_of, some_deal, turned
 from lasttricks.hands import best
-
-LOWEST = -2147483648
-HIGHEST = 2147483647
-NO_TRUMP = 4
-TRUMPS = range(5)
-LEADS = range(4)
-
-
-def deal(*hands):
-    """The cards of four hands, as best takes them."""
-    return [card for hand in hands for card in hand]
-
-
-def turned(hands, steps):
-    """The same hands with each seat moved on by some steps."""
-    return [hands[(seat - steps) % 4] for seat in range(4)]
-
-
-def hands_of(k, cards):
-    return [cards[k * seat:k * seat + k] for seat in range(4)]
-
-
-def some_deal(rng, k, pool=range(52)):
-    return rng.sample(list(pool), 4 * k)
-
-
-def deal_by_suits(rng, k):
-    """A deal in which a seat has few suits, so that the rule of suit bars few cards."""
-    while True:
-        left = list(range(52))
-        cards = []
-        for seat in range(4):
-            suits = rng.sample(range(4), rng.choice([1, 1, 2, 3]))
-            hers = [card for card in left if card // 13 in suits]
-            if len(hers) < k:
-                break
-            cards += rng.sample(hers, k)
-            left = [card for card in left if card not in cards]
-        if len(cards) == 4 * k:
-            return cards
+from one_call import OneCall
+from wrong_calls import WrongDeals
 
 
 class OneTrick(unittest.TestCase):
@@ -252,9 +213,8 @@ class AgainstPlainSearch(unittest.TestCase):
             self.check(5, trump, rng.randrange(4), some_deal(rng, 5))
 
     def test_six_tricks(self):
-        for deals in (six_tricks.MIXED_HANDS, six_tricks.FEW_BARRED, six_tricks.LONG_SEARCHES):
-            for trump, lead, cards, expected in deals:
-                self.assertEqual(best(6, trump, lead, cards), [expected], (trump, lead, cards))
+        for trump, lead, cards, first in six_tricks.ALL:
+            self.assertEqual(best(6, trump, lead, cards), first[:1], (trump, lead, cards))
 
 
 class ManyTricks(unittest.TestCase):
@@ -285,63 +245,10 @@ class ManyTricks(unittest.TestCase):
                 self.check_same_game(6, trump, step, deal_by_suits(rng, 6))
 
 
-class Refused(unittest.TestCase):
+class Refused(WrongDeals, unittest.TestCase):
 
-    def check(self, k, trump, lead, cards):
-        self.assertEqual(best(k, trump, lead, cards), [-2], (k, trump, lead, cards))
-
-    def test_k(self):
-        for k in (0, 7, 8, -1, LOWEST, HIGHEST):
-            for trump in TRUMPS:
-                for lead in LEADS:
-                    self.check(k, trump, lead, [])
-
-    def test_trump(self):
-        for k in range(1, 7):
-            for trump in (-1, 5, 6, LOWEST, HIGHEST):
-                for lead in LEADS:
-                    self.check(k, trump, lead, list(range(4 * k)))
-
-    def test_lead(self):
-        for k in range(1, 7):
-            for lead in (-1, 4, 5, LOWEST, HIGHEST):
-                for trump in TRUMPS:
-                    self.check(k, trump, lead, list(range(4 * k)))
-
-    def test_a_card_that_there_is_not(self):
-        for card in range(52, 256):
-            for place in range(4):
-                cards = [0, 1, 2, 3]
-                cards[place] = card
-                self.check(1, NO_TRUMP, 0, cards)
-        for k in range(1, 7):
-            for place in range(4 * k):
-                for card in (52, 64, 255):
-                    cards = list(range(4 * k))
-                    cards[place] = card
-                    self.check(k, 0, 3, cards)
-
-    def test_two_cards_alike(self):
-        for k in range(1, 7):
-            for one in range(4 * k):
-                for other in range(one):
-                    cards = list(range(51, 51 - 4 * k, -1))
-                    cards[one] = cards[other]
-                    self.check(k, 1, 2, cards)
-
-    def test_all_cards_alike(self):
-        for k in range(1, 7):
-            for card in (0, 51):
-                self.check(k, NO_TRUMP, 0, [card] * (4 * k))
-
-    def test_several_at_once(self):
-        self.check(0, 5, 4, [])
-        self.check(7, -1, -1, [])
-        self.check(LOWEST, HIGHEST, LOWEST, [])
-        self.check(1, 5, 4, [0, 1, 2, 3])
-        self.check(1, -1, 0, [52, 52, 255, 255])
-        self.check(1, 0, 4, [0, 0, 1, 2])
-        self.check(2, 5, 4, [255] * 8)
+    def answer(self, k, trump, lead, cards):
+        return best(k, trump, lead, cards)
 
     def test_what_is_just_within_is_answered(self):
         for k in (1, 6):
@@ -352,17 +259,12 @@ class Refused(unittest.TestCase):
                         self.assertTrue(0 <= answer[0] <= k)
 
 
-class LeftAlone(list):
-    """A list that fails when it is changed, be it for a while."""
+class Calls(OneCall, unittest.TestCase):
 
-    def changed(self, *args, **kwargs):
-        raise AssertionError("what was handed in was changed")
+    function = staticmethod(best)
 
-    append = extend = insert = pop = remove = clear = sort = reverse = changed
-    __setitem__ = __delitem__ = __iadd__ = __imul__ = changed
-
-
-class OneCall(unittest.TestCase):
+    def length(self, call):
+        return 1
 
     def calls(self):
         rng = random.Random(110)
@@ -373,45 +275,12 @@ class OneCall(unittest.TestCase):
         yield 1, 5, 0, [0, 1, 2, 3]
         yield 0, 0, 0, []
 
-    def test_an_answer_is_a_list_of_one_whole_number(self):
-        for call in self.calls():
-            answer = best(*call)
-            self.assertIs(type(answer), list)
-            self.assertEqual([type(number) for number in answer], [int])
-
-    def test_what_is_handed_in_stays_as_it_was(self):
-        for k, trump, lead, cards in self.calls():
-            handed = LeftAlone(cards)
-            best(k, trump, lead, handed)
-            self.assertEqual(list(handed), cards)
-
-    def test_nothing_is_kept(self):
-        calls = list(self.calls())
-        first = [best(*call) for call in calls]
-        self.assertEqual([best(*call) for call in calls], first)
-        self.assertEqual([best(*call) for call in reversed(calls)], first[::-1])
-
-    def test_an_answer_that_is_changed_does_no_harm(self):
-        for call in self.calls():
-            answer = best(*call)
-            before = list(answer)
-            answer.append(99)
-            answer[0] = 77
-            self.assertEqual(best(*call), before)
-
     def test_same_cards_with_another_trump_or_lead(self):
         cards = [0, 13, 26, 39]
         for lead in LEADS:
             for trump in TRUMPS:
                 taker = lead if trump == NO_TRUMP else trump
                 self.assertEqual(best(1, trump, lead, cards), [1 if taker in (0, 2) else 0])
-
-    def test_nothing_is_printed(self):
-        printed = io.StringIO()
-        with contextlib.redirect_stdout(printed), contextlib.redirect_stderr(printed):
-            for call in self.calls():
-                best(*call)
-        self.assertEqual(printed.getvalue(), "")
 
 
 if __name__ == "__main__":
