@@ -25,6 +25,7 @@ class Table:
         self.trump = trump
         self.lead = lead
         self.trick = []
+        self.won = 0
         # A card stays in here till its trick is over, since an order is written as it was at the start of a trick.
         self.seat_of = {}
         for dealt, card in enumerate(cards):
@@ -51,9 +52,11 @@ class Table:
             self.end_trick()
 
     def end_trick(self):
-        """Take the four cards away; who takes the trick plays first in the next."""
+        """Take the four cards away; who takes the trick plays first in the next, and won counts it for 0 and 2."""
         over = self.trick
         self.lead = self.seat_of[winning_card(over, self.trump)]
+        if self.lead % 2 == 0:
+            self.won += 1
         self.trick = []
         for card in over:
             self.seat_of.pop(card)
@@ -87,6 +90,21 @@ def after(k, trump, lead, cards, played):
     tricks = most_tricks(known, table)
     good = [card for card in table.cards_allowed() if is_good(known, table, card, tricks)]
     return [tricks] + good + [NO_CARD] * (MOST_TRICKS - len(good))
+
+
+def line(k, trump, lead, cards):
+    """Answer how many tricks 0 and 2 take, then all cards as they are played, the least that is good each time."""
+    if not is_deal(k, trump, lead, cards):
+        return [WRONG_DEAL]
+    table = Table(k, trump, lead, cards)
+    known = {}
+    tricks = most_tricks(known, table)
+    played = []
+    while len(table.seat_of) > 0:
+        card = least_good_card(known, table, tricks - table.won)
+        table.play(card)
+        played.append(card)
+    return [tricks] + played
 
 
 def is_deal(k, trump, lead, cards):
@@ -138,6 +156,15 @@ def is_good(known, table, card, tricks):
     if table.turn() % 2 == 0:
         return table_reaches(known, table, [card], tricks)
     return not table_reaches(known, table, [card], tricks + 1)
+
+
+def least_good_card(known, table, tricks):
+    """Name the least card that keeps the outcome; when all but one don't, the last one does."""
+    allowed = table.cards_allowed()
+    for card in allowed[:-1]:
+        if is_good(known, table, card, tricks):
+            return card
+    return allowed[-1]
 
 
 def table_reaches(known, table, more, need):

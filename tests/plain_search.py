@@ -98,3 +98,15 @@ def after(k, trump, lead, cards, played):
     reached = game.wanted(outcomes.values())
     good = [card for card in sorted(outcomes) if outcomes[card] == reached]
     return [reached - game.over] + good + [255] * (6 - len(good))
+
+
+def line(k, trump, lead, cards):
+    """What the document asks of line, where the deal is right."""
+    game = start(k, trump, lead, cards)
+    answer = [game.outcome()]
+    while game.allowed():
+        outcomes = game.outcomes()
+        reached = game.wanted(outcomes.values())
+        answer.append(min(card for card in outcomes if outcomes[card] == reached))
+        game = game.played(answer[-1])
+    return answer

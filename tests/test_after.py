@@ -193,7 +193,7 @@ class AgainstPlainSearch(unittest.TestCase):
                 self.check_steps(rng, 6, trump, lead, deal_by_suits(rng, 6), 13)
 
     def test_six_tricks_from_the_beginning(self):
-        for trump, lead, cards, first in six_tricks.ALL:
+        for trump, lead, cards, first, played in six_tricks.ALL:
             self.assertEqual(after(6, trump, lead, cards, []), first, (trump, lead, cards))
 
 

@@ -213,7 +213,7 @@ class AgainstPlainSearch(unittest.TestCase):
             self.check(5, trump, rng.randrange(4), some_deal(rng, 5))
 
     def test_six_tricks(self):
-        for trump, lead, cards, first in six_tricks.ALL:
+        for trump, lead, cards, first, played in six_tricks.ALL:
             self.assertEqual(best(6, trump, lead, cards), first[:1], (trump, lead, cards))
 
 
