@@ -1,4 +1,4 @@
-"""How many of the last tricks 0 and 2 take, when all cards are seen.
+"""The last tricks, when all cards are seen: how many 0 and 2 take, and with which cards.
 
 The search knows no card by its number. What counts is who has which cards in each suit, from the lowest up, so the
 cards that are left are written as one text, the order: a digit for the seat that has the card, suit behind suit,
@@ -105,6 +105,16 @@ def line(k, trump, lead, cards):
         table.play(card)
         played.append(card)
     return [tricks] + played
+
+
+def taken(k, trump, lead, cards, played):
+    """Answer how many of the tricks that are over 0 and 2 have taken, then whose turn it is, or the refusal."""
+    if not is_deal(k, trump, lead, cards) or len(played) > SEATS * k:
+        return [WRONG_DEAL]
+    table = Table(k, trump, lead, cards)
+    if not play_all(table, played):
+        return [WRONG_PLAY]
+    return [table.won, table.turn()]
 
 
 def is_deal(k, trump, lead, cards):

@@ -110,3 +110,9 @@ def line(k, trump, lead, cards):
         answer.append(min(card for card in outcomes if outcomes[card] == reached))
         game = game.played(answer[-1])
     return answer
+
+
+def taken(k, trump, lead, cards, played):
+    """What the document asks of taken, where the deal is right."""
+    game = replay(k, trump, lead, cards, played)
+    return [-1] if game is None else [game.over, game.seat]
